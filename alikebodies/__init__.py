@@ -1,0 +1,1 @@
+"""Faces, and bodies built alike: alikebodies.bodies holds the calls."""

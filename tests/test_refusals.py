@@ -1,0 +1,130 @@
+"""What faces and face refuse, each by itself and two at once."""
+
+import unittest
+
+from alikebodies.bodies import face, faces
+from tests import shapes
+
+FAR = 4294967295
+FLAT = {
+    2: [[0, 0], [1, 1], [2, 2]],
+    3: [[0, 0, 0], [1, 0, 5], [0, 1, 5], [1, 1, 10]],
+    4: [[0, 0, 0, 3], [1, 0, 0, 3], [0, 1, 0, 3], [0, 0, 1, 3], [1, 1, 1, 3]],
+}
+FULL = {2: shapes.TRIANGLE, 3: shapes.TETRAHEDRON, 4: shapes.SIMPLEX}
+
+
+class OfNAndPoints(unittest.TestCase):
+    """Each is told by faces, and by face, also where its dimension and number are wrong besides."""
+
+    def refused(self, refusal, n, points):
+        self.assertEqual(faces(n, points), [refusal])
+        for dimension, which in ((0, 0), (-1, 0), (n, 0), (FAR, 0), (0, -1), (1, FAR), (-FAR, -FAR)):
+            self.assertEqual(face(n, dimension, which, points), [refusal])
+
+    def test_n(self):
+        for n in (1, 0, -1, -2, -3, -FAR):
+            self.refused(-3, n, shapes.TRIANGLE)
+        self.refused(-3, 1, [[0], [1]])
+        self.refused(-3, 0, [[]])
+        for n in (5, 6, 8, FAR):
+            self.refused(-3, n, shapes.SIMPLEX)
+        self.refused(-3, 5, [[1 if place == k else 0 for place in range(5)] for k in range(6)])
+
+    def test_no_points(self):
+        for n in (2, 3, 4):
+            self.refused(-2, n, [])
+
+    def test_more_than_ten_points(self):
+        for n in (2, 3, 4):
+            self.refused(-2, n, FULL[n] + [FULL[n][0]] * (11 - len(FULL[n])))
+            self.refused(-2, n, FULL[n] + [FULL[n][0]] * (24 - len(FULL[n])))
+        self.refused(-2, 2, [[k, k * k] for k in range(-5, 6)])
+        self.refused(-2, 4, shapes.TESSERACT)
+
+    def test_ten_points_and_the_fewest(self):
+        for n in (2, 3, 4):
+            ten = FULL[n] + [FULL[n][0]] * (10 - len(FULL[n]))
+            self.assertEqual(faces(n, ten), faces(n, FULL[n]))
+            self.assertEqual(face(n, 0, n, ten), [1, n])
+
+    def test_a_point_of_another_count(self):
+        for n in (2, 3, 4):
+            for count in (0, 1, 2, 3, 4, 5, 8):
+                if count != n:
+                    self.refused(-1, n, FULL[n] + [[1] * count])
+                    self.refused(-1, n, [[1] * count] + FULL[n])
+                    self.refused(-1, n, [[1] * count])
+
+    def test_a_number_out_of_range(self):
+        for n in (2, 3, 4):
+            for number in (101, -101, 1000, FAR, -FAR):
+                for place in range(n):
+                    point = [0] * n
+                    point[place] = number
+                    self.refused(-1, n, FULL[n] + [point])
+                    self.refused(-1, n, [point] + FULL[n])
+
+    def test_the_last_numbers_in_range(self):
+        for n in (2, 3, 4):
+            for number in (100, -100):
+                for place in range(n):
+                    point = [0] * n
+                    point[place] = number
+                    self.assertGreater(faces(n, FULL[n] + [point])[0], n)
+
+    def test_points_that_lie_in_fewer_dimensions(self):
+        for n in (2, 3, 4):
+            self.refused(-5, n, FLAT[n])
+            self.refused(-5, n, FLAT[n] * 2)
+            self.refused(-5, n, FULL[n][:n])
+            self.refused(-5, n, [[7] * n])
+            self.refused(-5, n, [[7] * n] * 10)
+            self.refused(-5, n, [[k] * n for k in range(10)])
+        self.refused(-5, 4, [[x, y, 0, 0] for x, y in shapes.DECAGON])
+        self.refused(-5, 3, [[99, 98, 97], [-99, -98, -97], [100, -100, 100], [-100, 100, -100]])
+
+    def test_points_that_hardly_lie_in_n_dimensions(self):
+        self.assertEqual(faces(2, [[-100, -100], [100, 100], [99, 98]]), [3, 3, 1, 1])
+        self.assertEqual(faces(3, [[99, 98, 97], [-99, -98, -97], [100, -100, 100], [-100, 100, -99]]),
+                         [4, 6, 4, 1, 1])
+
+    def test_two_at_once(self):
+        for n in (-FAR, 1, 5, FAR):
+            self.refused(-3, n, [])
+            self.refused(-3, n, [[0, 0]] * 11)
+            self.refused(-3, n, [[101], []])
+            self.refused(-3, n, FLAT[2])
+        for n in (2, 3, 4):
+            self.refused(-2, n, [[]] * 11)
+            self.refused(-2, n, FULL[n] + [[101] * n] * 9)
+            self.refused(-2, n, [[k] * n for k in range(11)])
+            self.refused(-1, n, FLAT[n] + [[1] * (n + 1)])
+            self.refused(-1, n, FLAT[n] + [[101] * n])
+            self.refused(-1, n, [[1] * (n - 1) + [-101]] * 2)
+
+
+class OfFaceBesides(unittest.TestCase):
+    def test_dimension(self):
+        for n in (2, 3, 4):
+            for dimension in (-FAR, -2, -1, n, n + 1, FAR):
+                for which in (0, 1):
+                    self.assertEqual(face(n, dimension, which, FULL[n]), [-4])
+            for dimension in range(n):
+                self.assertEqual(face(n, dimension, 0, FULL[n]), [dimension + 1] + list(range(dimension + 1)))
+
+    def test_number(self):
+        for n, points in FULL.items():
+            for dimension in range(n):
+                many = faces(n, points)[dimension]
+                for which in (-FAR, -many, -2, -1, many, many + 1, FAR):
+                    self.assertEqual(face(n, dimension, which, points), [-4])
+                self.assertGreater(face(n, dimension, many - 1, points)[0], 0)
+
+    def test_both(self):
+        self.assertEqual(face(3, -1, -1, shapes.CUBE), [-4])
+        self.assertEqual(face(3, 3, 8, shapes.CUBE), [-4])
+
+
+if __name__ == "__main__":
+    unittest.main()
