@@ -29,6 +29,33 @@ def face(n, dimension, which, points):
     return row_of(rows[which])
 
 
+def on(n, corners, points):
+    """1 if these corners are a face, else 0; then of the least face that has them all: its dimension, its row."""
+    refused = refusal_of_points(n, points)
+    if refused < 0:
+        return [refused]
+    body = Body(n, points)
+    if not are_numbers_of_corners(corners, body):
+        return [-4]
+    least = body.least_face(corners)
+    answer = [1 if least == tuple(corners) else 0, body.dimension_of_face(least)]
+    return answer + row_of(least)
+
+
+def over(n, corners, points):
+    """How many faces of one dimension more have the face of these corners; then each, in order: its row."""
+    told = on(n, corners, points)
+    if told[0] < 0:
+        return told
+    if told[0] == 0:
+        return [-6]
+    rows = Body(n, points).faces_over(corners)
+    answer = [len(rows)]
+    for row in rows:
+        answer.extend(row_of(row))
+    return answer
+
+
 def row_of(numbers):
     """A row: how many corners, then they."""
     return [len(numbers)] + list(numbers)
@@ -50,3 +77,14 @@ def refusal_of_points(n, points):
 def is_point(n, numbers):
     """Whether these are n whole numbers from -100 to 100."""
     return len(numbers) == n and all([-100 <= number <= 100 for number in numbers])
+
+
+def are_numbers_of_corners(numbers, body):
+    """Whether these numbers rise, each of them one of the body's corners' numbers."""
+    last = -1
+    for number in numbers:
+        # The first one is above -1 just if it isn't below 0.
+        if number <= last or number >= len(body.corners):
+            return False
+        last = number
+    return True

@@ -30,14 +30,33 @@ class Body:
         """Whether each side has just n corners on its bound."""
         return all([len(bound) == self.n for bound in self.bounds])
 
+    def all_faces(self):
+        """The faces of all dimensions from -1 to n, in order, each a rising tuple of corners' numbers."""
+        return shared_by_some(self.bounds) + [tuple(range(len(self.corners)))]
+
     def faces_by_dimension(self):
-        """For each dimension 0 to n - 1 its faces, in order, each a rising tuple of corners' numbers."""
+        """For each dimension 0 to n - 1 its faces, in order."""
         rows = [[] for dimension in range(self.n)]
-        for numbers in shared_by_some(self.bounds):
-            dimension = dimensions_of([self.corners[number] for number in numbers])
-            if dimension >= 0:
+        for numbers in self.all_faces():
+            dimension = self.dimension_of_face(numbers)
+            if 0 <= dimension < self.n:
                 rows[dimension].append(numbers)
         return rows
+
+    def dimension_of_face(self, numbers):
+        """In how many dimensions the corners with these numbers lie."""
+        return dimensions_of([self.corners[number] for number in numbers])
+
+    def least_face(self, numbers):
+        """The least face that has all corners with these numbers."""
+        having = [bound for bound in self.bounds if has_all(bound, numbers)]
+        return tuple([number for number in range(len(self.corners)) if all([number in bound for bound in having])])
+
+    def faces_over(self, numbers):
+        """The faces of one dimension more that have the face with these corners' numbers, in order."""
+        dimension = self.dimension_of_face(numbers) + 1
+        having = [row for row in self.all_faces() if has_all(row, numbers)]
+        return [row for row in having if self.dimension_of_face(row) == dimension]
 
 
 def sides_of(n, points):
@@ -96,6 +115,11 @@ def is_corner(point, sides):
     """
     ahead = [side[:-1] for side in sides if is_on_bound(side, point)]
     return how_many_free(ahead) == len(point)
+
+
+def has_all(row, numbers):
+    """Whether all these numbers are in the row."""
+    return all([number in row for number in numbers])
 
 
 def shared_by_some(bounds):

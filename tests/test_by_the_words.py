@@ -1,4 +1,4 @@
-"""faces and face against the words themselves, found without any side.
+"""The calls about faces against the words themselves, found without any side.
 
 Some corners are a face's just if in some direction they are the furthest, and no others: that is, just if no
 mixture of the other corners lies where the directions between these corners lead to. Such mixtures are sought
@@ -9,7 +9,7 @@ import unittest
 from fractions import Fraction
 from itertools import combinations
 
-from alikebodies.bodies import face, faces
+from alikebodies.bodies import face, faces, on, over
 
 
 def reduced(rows):
@@ -97,6 +97,28 @@ class ByTheWords(unittest.TestCase):
         for dimension in range(n):
             told = [face(n, dimension, which, points) for which in range(len(rows[dimension]))]
             self.assertEqual(told, rows[dimension])
+        every = [[[0]]] + rows + [[[many] + list(range(many))]]
+        self.on_agrees(n, points, every, many)
+        self.over_agrees(n, points, every)
+
+    def on_agrees(self, n, points, rows, many):
+        """on, of some choices of corners; rows are the faces of dimensions -1 to n."""
+        chance = Chance(1000 * many + sum(abs(number) for point in points for number in point))
+        for turn in range(12):
+            chosen = [k for k in range(many) if chance.number(0, 2) <= turn % 3]
+            having = [(row[0], dimension - 1, row) for dimension, same in enumerate(rows)
+                      for row in same if set(chosen) <= set(row[1:])]
+            least = min(having)
+            self.assertEqual(on(n, chosen, points), [int(least[0] == len(chosen)), least[1]] + least[2])
+            if least[0] > len(chosen):
+                self.assertEqual(over(n, chosen, points), [-6])
+
+    def over_agrees(self, n, points, rows):
+        """over, of the first and the last faces of each dimension."""
+        for same, more in zip(rows, rows[1:] + [[]]):
+            for row in same[:4] + same[4:][-2:]:
+                having = [other for other in more if set(row[1:]) <= set(other[1:])]
+                self.assertEqual(over(n, row[1:], points), sum(having, [len(having)]))
 
     def some_bodies(self, n, many, reach, times, seed):
         chance = Chance(seed)

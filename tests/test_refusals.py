@@ -1,8 +1,8 @@
-"""What faces and face refuse, each by itself and two at once."""
+"""What each call refuses, each refusal by itself and two at once."""
 
 import unittest
 
-from alikebodies.bodies import face, faces
+from alikebodies.bodies import face, faces, on, over
 from tests import shapes
 
 FAR = 4294967295
@@ -15,12 +15,15 @@ FULL = {2: shapes.TRIANGLE, 3: shapes.TETRAHEDRON, 4: shapes.SIMPLEX}
 
 
 class OfNAndPoints(unittest.TestCase):
-    """Each is told by faces, and by face, also where its dimension and number are wrong besides."""
+    """Each is told by every call, also where its dimension and number, or its corners, are wrong besides."""
 
     def refused(self, refusal, n, points):
         self.assertEqual(faces(n, points), [refusal])
         for dimension, which in ((0, 0), (-1, 0), (n, 0), (FAR, 0), (0, -1), (1, FAR), (-FAR, -FAR)):
             self.assertEqual(face(n, dimension, which, points), [refusal])
+        for corners in ([], [0], [0, 1], [-1], [FAR], [1, 0], [0, 0], list(range(20)), [-FAR] * 20):
+            self.assertEqual(on(n, corners, points), [refusal])
+            self.assertEqual(over(n, corners, points), [refusal])
 
     def test_n(self):
         for n in (1, 0, -1, -2, -3, -FAR):
@@ -47,6 +50,8 @@ class OfNAndPoints(unittest.TestCase):
             ten = FULL[n] + [FULL[n][0]] * (10 - len(FULL[n]))
             self.assertEqual(faces(n, ten), faces(n, FULL[n]))
             self.assertEqual(face(n, 0, n, ten), [1, n])
+            self.assertEqual(on(n, [0, n], ten), [1, 1, 2, 0, n])
+            self.assertEqual(over(n, [n], ten), over(n, [n], FULL[n]))
 
     def test_a_point_of_another_count(self):
         for n in (2, 3, 4):
@@ -102,6 +107,52 @@ class OfNAndPoints(unittest.TestCase):
             self.refused(-1, n, FLAT[n] + [[1] * (n + 1)])
             self.refused(-1, n, FLAT[n] + [[101] * n])
             self.refused(-1, n, [[1] * (n - 1) + [-101]] * 2)
+
+
+class OfCornersBesides(unittest.TestCase):
+    """What on and over refuse of the corners' numbers."""
+
+    def refused(self, n, corners, points):
+        self.assertEqual(on(n, corners, points), [-4])
+        self.assertEqual(over(n, corners, points), [-4])
+
+    def test_numbers_that_do_not_rise(self):
+        for n in (2, 3, 4):
+            for corners in ([1, 0], [2, 1, 0], [0, 2, 1], [1, 2, 0], [1, 0, 2], list(range(n, -1, -1))):
+                self.refused(n, corners, FULL[n])
+        self.refused(3, [0, 1, 3, 2], shapes.CUBE)
+        self.refused(3, [7, 6, 5, 4], shapes.CUBE)
+
+    def test_the_same_number_twice(self):
+        for n in (2, 3, 4):
+            for corners in ([0, 0], [n, n], [0, 0, 1], [0, 1, 1], [0, 1, 2, 2], [0] * 20):
+                self.refused(n, corners, FULL[n])
+        self.refused(3, [0, 1, 2, 3, 3], shapes.CUBE)
+
+    def test_a_number_below_zero(self):
+        for n in (2, 3, 4):
+            for corners in ([-1], [-n - 1], [-FAR], [-1, 0], [-1, 0, 1], [-2, -1], [0, -1], list(range(-10, 10))):
+                self.refused(n, corners, FULL[n])
+
+    def test_no_such_corner(self):
+        for n in (2, 3, 4):
+            for corners in ([n + 1], [0, n + 1], [n, n + 1], list(range(n + 2)), [FAR], [0, 1, FAR], list(range(20))):
+                self.refused(n, corners, FULL[n])
+        for name, n, points, answer in shapes.KNOWN:
+            self.refused(n, [answer[0]], points)
+            self.refused(n, list(range(answer[0] + 1)), points)
+            self.assertEqual(on(n, [answer[0] - 1], points), [1, 0, 1, answer[0] - 1])
+            self.assertEqual(over(n, list(range(answer[0])), points), [0])
+
+    def test_ahead_of_no_face(self):
+        # 0 and 3 are opposite in the square, and so are 1 and 2.
+        self.assertEqual(over(2, [0, 3], shapes.SQUARE), [-6])
+        for corners in ([3, 0], [0, 3, 3], [-1, 0, 3], [0, 3, 4], [2, 1], [1, 2, 1]):
+            self.refused(2, corners, shapes.SQUARE)
+
+    def test_on_never_refuses_for_no_face(self):
+        for corners in ([0, 3], [1, 2], [0, 1, 2]):
+            self.assertEqual(on(2, corners, shapes.SQUARE), [0, 2, 4, 0, 1, 2, 3])
 
 
 class OfFaceBesides(unittest.TestCase):

@@ -1,9 +1,10 @@
 """What is handed in stays as it was, all along; what is given back is a new list of plain numbers each time."""
 
 import copy
+import inspect
 import unittest
 
-from alikebodies.bodies import face, faces
+from alikebodies.bodies import face, faces, on, over
 from tests import shapes
 
 
@@ -18,12 +19,18 @@ class Kept(list):
     __setitem__ = __delitem__ = __iadd__ = __imul__ = forbidden
 
 
+CORNERS = [[], [0], [0, 1], [0, 1, 2], [0, 1, 2, 3, 4, 5], [1, 0], [2, 2], [-1], list(range(20))]
 CALLS = [
     lambda n, points: faces(n, points),
     lambda n, points: face(n, 0, 0, points),
     lambda n, points: face(n, n - 1, 1, points),
     lambda n, points: face(n, n, 1, points),
     lambda n, points: face(n, 0, -1, points),
+    lambda n, points: on(n, [0, 1], points),
+    lambda n, points: on(n, [1, 0], points),
+    lambda n, points: over(n, [], points),
+    lambda n, points: over(n, [1], points),
+    lambda n, points: over(n, [0, 3], points),
 ]
 REFUSED = [(5, shapes.SIMPLEX), (2, []), (2, [[0, 0]] * 11), (3, [[0, 0, 101], []]), (2, [[3, 3], [2, 2], [1, 1]])]
 
@@ -48,6 +55,15 @@ class HandedIn(unittest.TestCase):
             for call in CALLS:
                 self.assertEqual(call(n, kept), call(n, points))
 
+    def test_corners(self):
+        for n, points in self.cases():
+            for corners in CORNERS:
+                before = list(corners)
+                kept = Kept(corners)
+                for call in (on, over):
+                    self.assertEqual(call(n, kept, points), call(n, corners, points))
+                    self.assertEqual(corners, before)
+
 
 class GivenBack(unittest.TestCase):
     def test_a_list_of_whole_numbers(self):
@@ -69,8 +85,33 @@ class GivenBack(unittest.TestCase):
         self.assertEqual(faces(2, points), [3, 3, 1, 1])
         points.append([4, 4])
         self.assertEqual(faces(2, points), [4, 4, 1, 1])
+        self.assertEqual(on(2, [1, 2], points), [0, 2, 4, 0, 1, 2, 3])
+        self.assertEqual(over(2, [3], points), [2, 2, 1, 3, 2, 2, 3])
         points[3][0] = 0
         self.assertEqual(faces(2, points), [3, 3, 1, 1])
+        self.assertEqual(on(2, [1, 2], points), [1, 1, 2, 1, 2])
+        self.assertEqual(over(2, [3], points), [-4])
+
+    def test_corners_changed_between_calls(self):
+        corners = [0, 1]
+        self.assertEqual(over(2, corners, shapes.TRIANGLE), [1, 3, 0, 1, 2])
+        self.assertEqual(on(2, corners, shapes.TRIANGLE), [1, 1, 2, 0, 1])
+        corners.append(2)
+        self.assertEqual(over(2, corners, shapes.TRIANGLE), [0])
+        self.assertEqual(on(2, corners, shapes.TRIANGLE), [1, 2, 3, 0, 1, 2])
+
+
+class Interface(unittest.TestCase):
+    """The names of the arguments, in their order; none has a default."""
+
+    def test_each_call(self):
+        for call, names in ((faces, ["n", "points"]), (face, ["n", "dimension", "which", "points"]),
+                            (on, ["n", "corners", "points"]), (over, ["n", "corners", "points"])):
+            given = inspect.signature(call).parameters
+            self.assertEqual(list(given), names)
+            self.assertTrue(all(part.default is part.empty for part in given.values()))
+            self.assertEqual(call.__module__, "alikebodies.bodies")
+
 
 
 if __name__ == "__main__":
