@@ -2,6 +2,7 @@
 
 from alikebodies.directions import dimensions_of
 from alikebodies.hull import Body
+from alikebodies.likeness import ways_between
 
 
 def faces(n, points):
@@ -54,6 +55,31 @@ def over(n, corners, points):
     for row in rows:
         answer.extend(row_of(row))
     return answer
+
+
+def alike(n, how_many, points):
+    """In how many ways the body of the first so many points and that of the others are alike; then the first way."""
+    if how_many < 0 or how_many > len(points):
+        return [-4]
+    parts = [points[:how_many], points[how_many:]]
+    for part in parts:
+        refused = refusal_of_points(n, part)
+        if refused < 0:
+            return [refused]
+    found = ways_between(Body(n, parts[0]), Body(n, parts[1]))
+    answer = [len(found)]
+    if found:
+        answer.extend(found[0])
+    return answer
+
+
+def ways(n, points):
+    """In how many ways the body is alike to itself."""
+    refused = refusal_of_points(n, points)
+    if refused < 0:
+        return [refused]
+    body = Body(n, points)
+    return [len(ways_between(body, body))]
 
 
 def row_of(numbers):

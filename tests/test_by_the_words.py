@@ -1,15 +1,16 @@
-"""The calls about faces against the words themselves, found without any side.
+"""The calls about faces and ways against the words themselves, faces found without any side.
 
 Some corners are a face's just if in some direction they are the furthest, and no others: that is, just if no
 mixture of the other corners lies where the directions between these corners lead to. Such mixtures are sought
-among few corners at a time, with fractions.
+among few corners at a time, with fractions. Ways are sought among all rows of numbers.
 """
 
 import unittest
 from fractions import Fraction
 from itertools import combinations
 
-from alikebodies.bodies import face, faces, on, over
+from alikebodies.bodies import alike, face, faces, on, over, ways
+from tests.ways_by_trial import all_ways
 
 
 def reduced(rows):
@@ -100,6 +101,18 @@ class ByTheWords(unittest.TestCase):
         every = [[[0]]] + rows + [[[many] + list(range(many))]]
         self.on_agrees(n, points, every, many)
         self.over_agrees(n, points, every)
+        return many, [set(row[1:]) for row in sides]
+
+    def alike_agrees(self, n, points, many, bounds, last):
+        """ways, and alike of the last body and of this one; last is None for the first one."""
+        if many > 6:
+            return
+        self.assertEqual(ways(n, points), [len(all_ways(many, bounds, bounds))])
+        if last is not None:
+            other_points, other_many, other_bounds = last
+            found = all_ways(many, other_bounds, bounds) if many == other_many else []
+            told = alike(n, len(other_points), other_points + points)
+            self.assertEqual(told, [len(found)] + (found[0] if found else []))
 
     def on_agrees(self, n, points, rows, many):
         """on, of some choices of corners; rows are the faces of dimensions -1 to n."""
@@ -123,11 +136,14 @@ class ByTheWords(unittest.TestCase):
     def some_bodies(self, n, many, reach, times, seed):
         chance = Chance(seed)
         done = 0
+        last = None
         while done < times:
             points = chance.points(n, many, reach)
             if dimensions(points) == n:
                 with self.subTest(n=n, points=points):
-                    self.agrees(n, points)
+                    so_many, bounds = self.agrees(n, points)
+                    self.alike_agrees(n, points, so_many, bounds, last)
+                    last = (points, so_many, bounds)
                 done += 1
             else:
                 self.assertEqual(faces(n, points), [-5])

@@ -2,7 +2,7 @@
 
 import unittest
 
-from alikebodies.bodies import face, faces, on, over
+from alikebodies.bodies import alike, face, faces, on, over, ways
 from tests import shapes
 
 FAR = 4294967295
@@ -24,6 +24,14 @@ class OfNAndPoints(unittest.TestCase):
         for corners in ([], [0], [0, 1], [-1], [FAR], [1, 0], [0, 0], list(range(20)), [-FAR] * 20):
             self.assertEqual(on(n, corners, points), [refusal])
             self.assertEqual(over(n, corners, points), [refusal])
+        self.assertEqual(ways(n, points), [refusal])
+        # The first body's fault, the second's, and the same of both.
+        good = FULL.get(n, shapes.TRIANGLE)
+        if len(points + good) <= 24:
+            self.assertEqual(alike(n, len(points), points + good), [refusal])
+            self.assertEqual(alike(n, len(good), good + points), [refusal])
+        if len(points + points) <= 24:
+            self.assertEqual(alike(n, len(points), points + points), [refusal])
 
     def test_n(self):
         for n in (1, 0, -1, -2, -3, -FAR):
@@ -52,6 +60,8 @@ class OfNAndPoints(unittest.TestCase):
             self.assertEqual(face(n, 0, n, ten), [1, n])
             self.assertEqual(on(n, [0, n], ten), [1, 1, 2, 0, n])
             self.assertEqual(over(n, [n], ten), over(n, [n], FULL[n]))
+            self.assertEqual(ways(n, ten), ways(n, FULL[n]))
+            self.assertEqual(alike(n, 10, ten + ten), alike(n, n + 1, FULL[n] + FULL[n]))
 
     def test_a_point_of_another_count(self):
         for n in (2, 3, 4):
@@ -153,6 +163,64 @@ class OfCornersBesides(unittest.TestCase):
     def test_on_never_refuses_for_no_face(self):
         for corners in ([0, 3], [1, 2], [0, 1, 2]):
             self.assertEqual(on(2, corners, shapes.SQUARE), [0, 2, 4, 0, 1, 2, 3])
+
+
+class OfHowManyBesides(unittest.TestCase):
+    """What alike refuses of how many, ahead of all else, and whose fault is told of the two bodies."""
+
+    FAULTS = {
+        -2: [[], [[0, 0]] * 11, shapes.DECAGON + [[0, 0]], [[]] * 12],  # two of these are 24 points at most
+        -1: [[[]], [[0, 0, 0]], shapes.TRIANGLE + [[101, 0]], FLAT[2] + [[0, -101]], [[1]] * 10],
+        -5: [FLAT[2], [[7, 7]], [[100, 100], [-100, -100]] * 5],
+    }
+
+    def test_below_zero(self):
+        for n in (2, 3, 4):
+            for how_many in (-1, -2, -n - 1, -10, -FAR):
+                self.assertEqual(alike(n, how_many, FULL[n] * 2), [-4])
+                self.assertEqual(alike(n, how_many, []), [-4])
+
+    def test_more_than_there_are_points(self):
+        for n in (2, 3, 4):
+            for more in (1, 2, 10, FAR - 2 * n - 2):
+                self.assertEqual(alike(n, 2 * n + 2 + more, FULL[n] * 2), [-4])
+            self.assertEqual(alike(n, 1, []), [-4])
+            self.assertEqual(alike(n, FAR, []), [-4])
+
+    def test_ahead_of_all_else(self):
+        for how_many in (-FAR, -1, 25, FAR):
+            for n in (-FAR, 1, 2, 5, FAR):
+                for points in ([], FLAT[2], FLAT[2] * 2, [[0, 0]] * 24, [[101, 0]], [[]], shapes.TRIANGLE * 2):
+                    self.assertEqual(alike(n, how_many, points), [-4])
+
+    def test_none_and_all(self):
+        for n in (2, 3, 4):
+            self.assertEqual(alike(n, 0, FULL[n]), [-2])
+            self.assertEqual(alike(n, 0, []), [-2])
+            self.assertEqual(alike(n, n + 1, FULL[n]), [-2])
+            self.assertEqual(alike(n, 2 * n + 2, FULL[n] * 2), [-2])
+            self.assertEqual(alike(n, 10, (FULL[n] * 4)[:10]), [-2])
+
+    def test_n_ahead_of_the_points(self):
+        for n in (-FAR, 0, 1, 5, FAR):
+            for how_many, points in ((0, []), (0, shapes.TRIANGLE), (3, shapes.TRIANGLE), (3, shapes.TRIANGLE * 2),
+                                     (3, FLAT[2] * 2), (11, [[0, 0]] * 24), (1, [[101, 0], []])):
+                self.assertEqual(alike(n, how_many, points), [-3])
+
+    def test_more_than_ten_points_on_one_side(self):
+        self.assertEqual(alike(2, 11, shapes.TRIANGLE * 8), [-2])
+        self.assertEqual(alike(2, 13, shapes.TRIANGLE * 8), [-2])
+        self.assertEqual(alike(2, 9, shapes.TRIANGLE * 7), [-2])
+        self.assertEqual(alike(2, 10, (shapes.TRIANGLE * 7)[:20]), [6, 0, 1, 2])
+
+    def test_the_first_bodys_fault_is_told(self):
+        for refusal, some in self.FAULTS.items():
+            for points in some:
+                self.assertEqual(alike(2, len(points), points + shapes.SQUARE), [refusal])
+                self.assertEqual(alike(2, 4, shapes.SQUARE + points), [refusal])
+                for others in self.FAULTS.values():
+                    for other in others:
+                        self.assertEqual(alike(2, len(points), points + other), [refusal])
 
 
 class OfFaceBesides(unittest.TestCase):

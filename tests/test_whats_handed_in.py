@@ -4,7 +4,7 @@ import copy
 import inspect
 import unittest
 
-from alikebodies.bodies import face, faces, on, over
+from alikebodies.bodies import alike, face, faces, on, over, ways
 from tests import shapes
 
 
@@ -31,6 +31,10 @@ CALLS = [
     lambda n, points: over(n, [], points),
     lambda n, points: over(n, [1], points),
     lambda n, points: over(n, [0, 3], points),
+    lambda n, points: alike(n, len(points), points + points[::-1]),
+    lambda n, points: alike(n, len(points) // 2, points),
+    lambda n, points: alike(n, -1, points),
+    lambda n, points: ways(n, points),
 ]
 REFUSED = [(5, shapes.SIMPLEX), (2, []), (2, [[0, 0]] * 11), (3, [[0, 0, 101], []]), (2, [[3, 3], [2, 2], [1, 1]])]
 
@@ -54,6 +58,15 @@ class HandedIn(unittest.TestCase):
             kept = Kept([Kept(point) for point in points])
             for call in CALLS:
                 self.assertEqual(call(n, kept), call(n, points))
+
+    def test_two_bodies(self):
+        for n, points in self.cases():
+            both = points + [[-number for number in point] for point in points]
+            before = copy.deepcopy(both)
+            kept = Kept([Kept(point) for point in both])
+            for how_many in (len(points), 0, len(both), -1, len(both) + 1, n + 1):
+                self.assertEqual(alike(n, how_many, kept), alike(n, how_many, both))
+                self.assertEqual(both, before)
 
     def test_corners(self):
         for n, points in self.cases():
@@ -87,10 +100,14 @@ class GivenBack(unittest.TestCase):
         self.assertEqual(faces(2, points), [4, 4, 1, 1])
         self.assertEqual(on(2, [1, 2], points), [0, 2, 4, 0, 1, 2, 3])
         self.assertEqual(over(2, [3], points), [2, 2, 1, 3, 2, 2, 3])
+        self.assertEqual(ways(2, points), [8])
+        self.assertEqual(alike(2, 4, points + shapes.SQUARE), [8, 0, 1, 2, 3])
         points[3][0] = 0
         self.assertEqual(faces(2, points), [3, 3, 1, 1])
         self.assertEqual(on(2, [1, 2], points), [1, 1, 2, 1, 2])
         self.assertEqual(over(2, [3], points), [-4])
+        self.assertEqual(ways(2, points), [6])
+        self.assertEqual(alike(2, 4, points + shapes.SQUARE), [0])
 
     def test_corners_changed_between_calls(self):
         corners = [0, 1]
@@ -106,12 +123,12 @@ class Interface(unittest.TestCase):
 
     def test_each_call(self):
         for call, names in ((faces, ["n", "points"]), (face, ["n", "dimension", "which", "points"]),
-                            (on, ["n", "corners", "points"]), (over, ["n", "corners", "points"])):
+                            (on, ["n", "corners", "points"]), (over, ["n", "corners", "points"]),
+                            (alike, ["n", "how_many", "points"]), (ways, ["n", "points"])):
             given = inspect.signature(call).parameters
             self.assertEqual(list(given), names)
             self.assertTrue(all(part.default is part.empty for part in given.values()))
             self.assertEqual(call.__module__, "alikebodies.bodies")
-
 
 
 if __name__ == "__main__":
