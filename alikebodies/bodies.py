@@ -1,6 +1,7 @@
 """The calls: each takes whole numbers and lists of them, and gives back one list of whole numbers."""
 
 from alikebodies.directions import dimensions_of
+from alikebodies.duality import corners_of_dual, is_within, place_told, sides_of_dual
 from alikebodies.hull import Body
 from alikebodies.likeness import ways_between
 
@@ -82,6 +83,25 @@ def ways(n, points):
     return [len(ways_between(body, body))]
 
 
+def dual(n, place, points):
+    """The dual about this place: how many corners, they in order; how many sides, they in order."""
+    refused = refusal_of_points(n, points)
+    if refused < 0:
+        return [refused]
+    if not is_place(n, place):
+        return [-4]
+    body = Body(n, points)
+    about = place_told(place)
+    if not is_within(body, about):
+        return [-6]
+    answer = []
+    for rows in (corners_of_dual(body, about), sides_of_dual(body, about)):
+        answer.append(len(rows))
+        for row in rows:
+            answer.extend(row)
+    return answer
+
+
 def row_of(numbers):
     """A row: how many corners, then they."""
     return [len(numbers)] + list(numbers)
@@ -103,6 +123,14 @@ def refusal_of_points(n, points):
 def is_point(n, numbers):
     """Whether these are n whole numbers from -100 to 100."""
     return len(numbers) == n and all([-100 <= number <= 100 for number in numbers])
+
+
+def is_place(n, numbers):
+    """Whether these are, for each of n numbers, what's above and what's below, each in its range."""
+    if len(numbers) != 2 * n:
+        return False
+    above_in_range = all([-100000 <= number <= 100000 for number in numbers[0::2]])
+    return above_in_range and all([1 <= number <= 1000 for number in numbers[1::2]])
 
 
 def are_numbers_of_corners(numbers, body):

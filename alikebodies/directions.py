@@ -71,3 +71,11 @@ def common_divisor(numbers):
             divisor = rest
             rest = over
     return divisor
+
+
+def common_multiple(numbers):
+    """The least number above 0 that all of these, each above 0, divide."""
+    multiple = 1
+    for number in numbers:
+        multiple = multiple * (number // common_divisor([multiple, number]))
+    return multiple

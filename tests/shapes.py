@@ -26,7 +26,8 @@ TESSERACT = [list(point) for point in product((0, 1), repeat=4)]
 # Bodies of ten corners, as many as there may be.
 NINE_PYRAMID = [[k, k * k, 0] for k in range(-4, 5)] + [[0, 1, 1]]
 OCTAGON_BOTH_WAYS = [[k, k * k, 0] for k in range(-4, 4)] + [[0, 5, 1], [0, 5, -1]]
-CUT_CUBE = [[0, 0, 0], [2, 0, 0], [0, 2, 0], [0, 0, 2], [2, 2, 0], [2, 0, 2], [0, 2, 2], [2, 2, 1], [2, 1, 2], [1, 2, 2]]
+CUT_CUBE = [[0, 0, 0], [2, 0, 0], [0, 2, 0], [0, 0, 2], [2, 2, 0], [2, 0, 2], [0, 2, 2],
+            [2, 2, 1], [2, 1, 2], [1, 2, 2]]
 MIDDLES_OF_EDGES = [[1 if place in pair else 0 for place in range(1, 5)] for pair in combinations(range(5), 2)]
 PENTAGON_ACROSS = [[x - 2, y - 2] + [0, 0] for x, y in PENTAGON] + [[0, 0] + [x - 2, y - 2] for x, y in PENTAGON]
 RING = [(100, 0), (81, 59), (31, 95), (-31, 95), (-81, 59), (-100, 0), (-81, -59), (-31, -95), (31, -95), (81, -59)]

@@ -2,7 +2,7 @@
 
 import unittest
 
-from alikebodies.bodies import alike, face, faces, on, over, ways
+from alikebodies.bodies import alike, dual, face, faces, on, over, ways
 from tests import shapes
 
 FAR = 4294967295
@@ -25,6 +25,8 @@ class OfNAndPoints(unittest.TestCase):
             self.assertEqual(on(n, corners, points), [refusal])
             self.assertEqual(over(n, corners, points), [refusal])
         self.assertEqual(ways(n, points), [refusal])
+        for place in ([1, 2] * 4, [1, 2] * 2, [1, 10] * 3, [], [1], [FAR, -FAR] * 4, [0, 0] * 2, [50, 1] * 3):
+            self.assertEqual(dual(n, place, points), [refusal])
         # The first body's fault, the second's, and the same of both.
         good = FULL.get(n, shapes.TRIANGLE)
         if len(points + good) <= 24:
@@ -61,6 +63,7 @@ class OfNAndPoints(unittest.TestCase):
             self.assertEqual(on(n, [0, n], ten), [1, 1, 2, 0, n])
             self.assertEqual(over(n, [n], ten), over(n, [n], FULL[n]))
             self.assertEqual(ways(n, ten), ways(n, FULL[n]))
+            self.assertEqual(dual(n, [1, 5] * n, ten), dual(n, [1, 5] * n, FULL[n]))
             self.assertEqual(alike(n, 10, ten + ten), alike(n, n + 1, FULL[n] + FULL[n]))
 
     def test_a_point_of_another_count(self):
@@ -221,6 +224,97 @@ class OfHowManyBesides(unittest.TestCase):
                 for others in self.FAULTS.values():
                     for other in others:
                         self.assertEqual(alike(2, len(points), points + other), [refusal])
+
+
+class OfAPlaceBesides(unittest.TestCase):
+    """What dual refuses of the place."""
+
+    INSIDE = {n: [1, 5] * n for n in (2, 3, 4)}
+
+    def changed(self, n, at, number):
+        place = list(self.INSIDE[n])
+        place[at] = number
+        return place
+
+    def test_another_count_of_numbers(self):
+        for n in (2, 3, 4):
+            for count in range(13):
+                place = ([1, 5] * 6)[:count]
+                if count == 2 * n:
+                    self.assertEqual(dual(n, place, FULL[n])[0], n + 1)
+                else:
+                    self.assertEqual(dual(n, place, FULL[n]), [-4])
+            self.assertEqual(dual(n, [], FULL[n]), [-4])
+            self.assertEqual(dual(n, [1] * n, FULL[n]), [-4])
+
+    def test_above_out_of_range(self):
+        for n in (2, 3, 4):
+            for axis in range(n):
+                for number in (100001, -100001, FAR, -FAR):
+                    self.assertEqual(dual(n, self.changed(n, 2 * axis, number), FULL[n]), [-4])
+                for number in (100000, -100000):
+                    self.assertEqual(dual(n, self.changed(n, 2 * axis, number), FULL[n]), [-6])
+
+    def test_below_out_of_range(self):
+        for n in (2, 3, 4):
+            for axis in range(n):
+                for number in (0, -1, -5, 1001, -1000, FAR, -FAR):
+                    self.assertEqual(dual(n, self.changed(n, 2 * axis + 1, number), FULL[n]), [-4])
+                self.assertEqual(dual(n, self.changed(n, 2 * axis + 1, 1000), FULL[n])[0], n + 1)
+        for place in ([1, 1, 1, 1], [1, 1000, 1, 1], [1, 1, 1, 1000], [1000, 1000, 1000, 1000]):
+            self.assertEqual(dual(2, place, shapes.TRIANGLE)[0], 3)
+
+    def test_the_ends_of_both_ranges_at_once(self):
+        hundreds = [[-100, -100], [-100, 100], [100, -100], [100, 100]]
+        self.assertEqual(dual(2, [100000, 1000, 0, 1], hundreds), [-6])
+        self.assertEqual(dual(2, [0, 1, -100000, 1000], hundreds), [-6])
+        self.assertEqual(dual(2, [99999, 1000, -99999, 1000], hundreds)[0], 4)
+        self.assertEqual(dual(2, [100001, 1000, 0, 1], hundreds), [-4])
+        self.assertEqual(dual(2, [0, 1, 0, 1001], hundreds), [-4])
+
+    def test_on_a_corner(self):
+        for name, n, points, answer in shapes.KNOWN:
+            for point in points:
+                self.assertEqual(dual(n, [part for number in point for part in (number, 1)], points), [-6])
+
+    def test_on_a_sides_bound(self):
+        self.assertEqual(dual(2, [1, 1, 0, 1], shapes.TRIANGLE), [-6])
+        self.assertEqual(dual(2, [2, 1, 2, 1], shapes.TRIANGLE), [-6])
+        self.assertEqual(dual(2, [4, 3, 8, 3], shapes.TRIANGLE), [-6])
+        self.assertEqual(dual(2, [0, 7, 1, 3], shapes.TRIANGLE), [-6])
+        for third in ([0, 5], [1, 1], [1000, 1000]):
+            self.assertEqual(dual(3, [1, 2, 1, 3] + third, shapes.CUBE), [-6])
+            self.assertEqual(dual(3, third + [1, 2, 1, 3], shapes.CUBE), [-6])
+        self.assertEqual(dual(3, [1, 2, 1, 3, 1, 6], shapes.OCTAHEDRON), [-6])
+        self.assertEqual(dual(4, [1, 4] * 4, shapes.SIMPLEX), [-6])
+        self.assertEqual(dual(4, [1, 4] * 3 + [0, 1], shapes.SIMPLEX), [-6])
+        self.assertEqual(dual(4, [-1, 4] * 4, shapes.CROSS), [-6])
+
+    def test_outside(self):
+        self.assertEqual(dual(2, [3, 1, 3, 1], shapes.TRIANGLE), [-6])
+        self.assertEqual(dual(2, [-1, 1, 2, 1], shapes.TRIANGLE), [-6])
+        self.assertEqual(dual(2, [2, 1, -1, 1000], shapes.TRIANGLE), [-6])
+        # On what the bound of a side is further on, but outside.
+        self.assertEqual(dual(2, [6, 1, -2, 1], shapes.TRIANGLE), [-6])
+        self.assertEqual(dual(2, [0, 1, -3, 1], shapes.TRIANGLE), [-6])
+        self.assertEqual(dual(3, [1, 2, 1, 2, 1001, 1000], shapes.CUBE), [-6])
+        self.assertEqual(dual(3, [1, 2, 1, 2, 1000, 999], shapes.CUBE), [-6])
+        self.assertEqual(dual(4, [1, 4] * 3 + [251, 1000], shapes.CROSS), [-6])
+        self.assertEqual(dual(4, [1, 1] * 4, shapes.SIMPLEX), [-6])
+
+    def test_hardly_within(self):
+        self.assertEqual(dual(2, [1, 1000, 1, 1000], shapes.TRIANGLE)[0], 3)
+        self.assertEqual(dual(2, [1999, 1000, 2, 1], shapes.TRIANGLE)[0], 3)
+        self.assertEqual(dual(2, [2001, 1000, 2, 1], shapes.TRIANGLE), [-6])
+        self.assertEqual(dual(3, [1, 2, 1, 2, 999, 1000], shapes.CUBE)[0], 6)
+        self.assertEqual(dual(4, [1, 4] * 3 + [249, 1000], shapes.CROSS)[0], 16)
+
+    def test_ahead_of_a_place_that_is_not_within(self):
+        for n in (2, 3, 4):
+            self.assertEqual(dual(n, [50, 1] * n, FULL[n]), [-6])
+            for place in ([50, 1] * (n - 1), [50, 1] * (n + 1), [50, 0] + [50, 1] * (n - 1), [50, 1001] * n,
+                          [100001, 1] * n, [0, 1] * (n - 1) + [0, 0], [-50, -1] * n):
+                self.assertEqual(dual(n, place, FULL[n]), [-4])
 
 
 class OfFaceBesides(unittest.TestCase):

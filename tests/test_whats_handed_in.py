@@ -4,7 +4,7 @@ import copy
 import inspect
 import unittest
 
-from alikebodies.bodies import alike, face, faces, on, over, ways
+from alikebodies.bodies import alike, dual, face, faces, on, over, ways
 from tests import shapes
 
 
@@ -20,6 +20,7 @@ class Kept(list):
 
 
 CORNERS = [[], [0], [0, 1], [0, 1, 2], [0, 1, 2, 3, 4, 5], [1, 0], [2, 2], [-1], list(range(20))]
+PLACES = [[], [0, 1], [1, 5] * 2, [3, 2] * 2, [1, 5] * 3, [2, 10] * 4, [1, 0] * 4, [0, 1001] * 2, [9, 1] * 6]
 CALLS = [
     lambda n, points: faces(n, points),
     lambda n, points: face(n, 0, 0, points),
@@ -35,6 +36,9 @@ CALLS = [
     lambda n, points: alike(n, len(points) // 2, points),
     lambda n, points: alike(n, -1, points),
     lambda n, points: ways(n, points),
+    lambda n, points: dual(n, [1, 5] * n, points),
+    lambda n, points: dual(n, [0, 1] * n, points),
+    lambda n, points: dual(n, [1, 0] * n, points),
 ]
 REFUSED = [(5, shapes.SIMPLEX), (2, []), (2, [[0, 0]] * 11), (3, [[0, 0, 101], []]), (2, [[3, 3], [2, 2], [1, 1]])]
 
@@ -78,6 +82,15 @@ class HandedIn(unittest.TestCase):
                     self.assertEqual(corners, before)
 
 
+    def test_places(self):
+        for n, points in self.cases():
+            for place in PLACES:
+                before = list(place)
+                kept = Kept(place)
+                self.assertEqual(dual(n, kept, points), dual(n, place, points))
+                self.assertEqual(place, before)
+
+
 class GivenBack(unittest.TestCase):
     def test_a_list_of_whole_numbers(self):
         for n, points in HandedIn().cases():
@@ -102,12 +115,24 @@ class GivenBack(unittest.TestCase):
         self.assertEqual(over(2, [3], points), [2, 2, 1, 3, 2, 2, 3])
         self.assertEqual(ways(2, points), [8])
         self.assertEqual(alike(2, 4, points + shapes.SQUARE), [8, 0, 1, 2, 3])
+        self.assertEqual(dual(2, [2, 1, 2, 1], points)[0], 4)
         points[3][0] = 0
         self.assertEqual(faces(2, points), [3, 3, 1, 1])
         self.assertEqual(on(2, [1, 2], points), [1, 1, 2, 1, 2])
         self.assertEqual(over(2, [3], points), [-4])
         self.assertEqual(ways(2, points), [6])
         self.assertEqual(alike(2, 4, points + shapes.SQUARE), [0])
+        self.assertEqual(dual(2, [2, 1, 2, 1], points), [-6])
+
+    def test_place_changed_between_calls(self):
+        place = [1, 1, 1, 1]
+        first = dual(2, place, shapes.TRIANGLE)
+        place[1] = 2
+        self.assertNotEqual(dual(2, place, shapes.TRIANGLE), first)
+        place[1] = 0
+        self.assertEqual(dual(2, place, shapes.TRIANGLE), [-4])
+        place[1] = 1
+        self.assertEqual(dual(2, place, shapes.TRIANGLE), first)
 
     def test_corners_changed_between_calls(self):
         corners = [0, 1]
@@ -124,7 +149,8 @@ class Interface(unittest.TestCase):
     def test_each_call(self):
         for call, names in ((faces, ["n", "points"]), (face, ["n", "dimension", "which", "points"]),
                             (on, ["n", "corners", "points"]), (over, ["n", "corners", "points"]),
-                            (alike, ["n", "how_many", "points"]), (ways, ["n", "points"])):
+                            (alike, ["n", "how_many", "points"]), (ways, ["n", "points"]),
+                            (dual, ["n", "place", "points"])):
             given = inspect.signature(call).parameters
             self.assertEqual(list(given), names)
             self.assertTrue(all(part.default is part.empty for part in given.values()))
